@@ -1,0 +1,66 @@
+"""The interface: names, arguments, and in which file each thing is defined."""
+
+import importlib
+import inspect
+import unittest
+
+from tests.helpers import MODULES
+
+LISTED = {
+    "rows": "dot(one, other) plain(row) led(table, row) table_product(one, other) determinant(table)",
+    "ratios": "ratio(above, below) ratio_sum(one, other) ratio_product(one, other) ratio_below(one, other)",
+    "deals": "dealt(columns, goal) dam(columns, goal) is_deal(columns, goal, thing) is_dam(columns, goal, thing)",
+    "leasts": "least_deal(columns, costs, goal) is_told_least(columns, costs, goal, thing)",
+    "hulls": "mixture(rows, row) outer(rows, row) is_mixture(rows, row, thing) is_outer(rows, row, thing) corners(rows)",
+    "kinds": "Kind(size, tables) plain_kind(size) mirror_kind(size) step_images(kind, step) is_wider(one, other)",
+    "roses": "Rose(size, scale, rows) going(rose, step) leading(rose, step) adds_up(rose, steps) is_kept(kind, rose)",
+    "ways": "blend(rose, scale, row) beyond(rose, scale, row) is_blend(rose, scale, row, thing) "
+            "is_beyond(rose, scale, row, thing) never_slower(one, other) blends(one, other) slower_step(one, other) "
+            "are_blends(one, other, thing) is_slower_step(one, other, thing)",
+    "sums": "rose_sum(one, other) rose_greater(one, other) rose_times(rose, ratio) rose_led(rose, table) "
+            "rose_kept(kind, rose) rose_round(kind, rose) unkept(kind, rose) is_unkept(kind, rose, thing)",
+    "mixes": "mixed_going(one, other, step) best_split(one, other, step) best_row(one, other, step) "
+             "are_mixed(one, other, step, told, split, common) mixed_rose(one, other)",
+    "sectors": "rays(rose) sectors(rose) sector_of(rose, step) probes(rose)",
+    "reaches": "idle_step(rose) spread(rose) is_idle_step(rose, thing) is_spread(rose, thing) reach(rose, time) "
+               "rose_of_reach(scale, ends)",
+    "rests": "rest(whole, part) rest_flaw(whole, part) is_rest_flaw(whole, part, thing)",
+    "trips": "trip(size, pairs) is_trip(size, thing) total(rose, trip) end(size, trip) trip_sum(size, one, other) "
+             "trip_times(size, trip, number) back(size, trip) trip_led(size, trip, table)",
+    "shares": "images(kind, trip) shares(kind, one, other) is_shares(kind, one, other, thing)",
+    "claims": "bar(kind, one, other) is_bar(kind, one, other, thing) never_longer(kind, one, other) folded(kind, trip) "
+              "compared(kind, one, other)",
+    "factors": "least_factor(kind, one, other) factor_shares(kind, one, other) factor_rose(kind, one, other)",
+}
+
+
+class InterfaceTest(unittest.TestCase):
+    def test_modules(self):
+        self.assertEqual(MODULES, ["errors", *LISTED])
+
+    def test_names_and_arguments(self):
+        for module, listed in LISTED.items():
+            held = importlib.import_module(f"pacerose.{module}")
+            for entry in listed.replace(", ", ",").split():
+                name, _, told = entry.rstrip(")").partition("(")
+                thing = getattr(held, name)
+                self.assertEqual(thing.__module__, held.__name__)
+                taken = inspect.signature(thing).parameters
+                self.assertEqual(list(taken), told.split(","), entry)
+                self.assertTrue(all(part.default is part.empty for part in taken.values()))
+
+    def test_methods_of_classes(self):
+        kinds, roses = importlib.import_module("pacerose.kinds"), importlib.import_module("pacerose.roses")
+        self.assertLessEqual({"__init__", "__eq__", "__len__"}, set(vars(kinds.Kind)))
+        self.assertLessEqual({"__init__", "__eq__"}, set(vars(roses.Rose)))
+        self.assertEqual(list(vars(kinds.plain_kind(1))), ["size", "tables"])
+        self.assertEqual(list(vars(roses.Rose(1, 1, []))), ["size", "scale", "rows"])
+
+    def test_package_defines_nothing(self):
+        package = importlib.import_module("pacerose")
+        self.assertEqual([name for name in vars(package) if not name.startswith("__") and not inspect.ismodule(
+            getattr(package, name))], [])
+
+
+if __name__ == "__main__":
+    unittest.main()
