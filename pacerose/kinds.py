@@ -54,7 +54,6 @@ class Kind:
 
 
 def plain_kind(size):
-    check_size(size)
     return Kind(size, [])
 
 

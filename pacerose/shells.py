@@ -62,10 +62,11 @@ class Shell:
                     break
 
     def grow(self, numbers):
+        # A point belongs to the first face it sees and the last face is raised first: none that waits gets lost.
         waiting = list(numbers)
         while len(waiting) > 0:
             number = waiting.pop()
-            if number in self.faces and len(self.outside[number]) > 0:
+            if len(self.outside[number]) > 0:
                 waiting.extend(self.raise_face(number))
 
     def seen_from(self, index, number):

@@ -71,12 +71,6 @@ def rose_round(kind, rose):
     return whole
 
 
-def unlike_step(one, other):
-    """A step that two unlike roses of one size do not take alike."""
-    step = blends_and_slower(one, other)[1]
-    return step if step is not None else blends_and_slower(other, one)[1]
-
-
 def first_changed(kind, rose):
     """The first table that does not keep the rose, with what it makes of it; None if all keep it."""
     for k, table in enumerate(kind.tables):
@@ -89,7 +83,10 @@ def first_changed(kind, rose):
 def unkept(kind, rose):
     check_kind_and_rose(kind, rose)
     found = first_changed(kind, rose)
-    return None if found is None else (found[0], unlike_step(found[1], rose))
+    if found is None:
+        return None
+    # If it were nowhere slower, it would be so again and again, until some power of the table is the unit.
+    return found[0], blends_and_slower(found[1], rose)[1]
 
 
 def is_unkept(kind, rose, thing):

@@ -54,8 +54,8 @@ def scaled_down(scale, row):
 def told_together(points):
     """Pairs (scale, point) with one scale for all, in lowest terms: the pair of it and the list of points."""
     whole = 1
-    for scale, _ in points:
-        whole = lcm(whole, scale)
+    for below, _ in points:
+        whole = lcm(whole, below)
     wide = [times(whole // scale, point) for scale, point in points]
     shared = divisor([whole] + [divisor(point) for point in wide])
     return whole // shared, [tuple([number // shared for number in point]) for point in wide]

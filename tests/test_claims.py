@@ -80,6 +80,18 @@ class SharesTest(unittest.TestCase):
         self.assertEqual(images(mirror_kind(1), (((1,), 2),)), [((-1,), 0), ((1,), 0)])
         self.assertEqual(images(kind, ()), [])
 
+    def test_no_step_is_spent_too_often(self):
+        kind, one, other = plain_kind(2), (((1, 0), 5),), (((1, 0), 3),)
+        self.assertIs(is_shares(kind, one, other, (1, ((5,),))), False)
+        self.assertIs(is_shares(kind, other, one, (1, ((3,),))), True)
+        both = (((0, 1), 2), ((1, 0), 2))
+        whole = (((0, 1), 1), ((1, 0), 1), ((1, 1), 3))
+        self.assertIs(is_shares(kind, (((1, 1), 4),), whole, (1, ((1, 1, 3),))), True)
+        self.assertIs(is_shares(kind, (((1, 1), 4),), whole, (1, ((0, 0, 4),))), False)
+        self.assertIs(is_shares(kind, (((1, 1), 4),), whole, (1, ((2, 2, 2),))), False)
+        self.assertIs(is_shares(mirror_kind(2), both, (((-1, 0), 2), ((0, 1), 2)), (1, ((0, 0, 2, 0), (0, 0, 0, 2)))), True)
+        self.assertIs(is_shares(mirror_kind(2), both, (((-1, 0), 1), ((0, 1), 2)), (1, ((0, 0, 2, 0), (0, 0, 0, 2)))), False)
+
     def test_images(self):
         r = seeded(131)
         for _ in range(100):

@@ -1,5 +1,6 @@
 """[11] Deals and dams, [12] the least deal."""
 
+import signal
 import unittest
 from fractions import Fraction
 
@@ -13,6 +14,13 @@ BAD_COLUMNS = [None, 5, "ab", {}, {(1, 2): 1}, [(1, 2), (1,)], [[1, 2]], [(True,
                [(1, 2), (1, 2, 3)], range(2), [(1, 2), None]]
 BAD_GOALS = [None, 5, "ab", [1, 2], (1,), (1, 2, 3), (True, 0), (1.0, 2), (), ((1, 2),)]
 MANY = ([(1, 0), (0, 1)] * 201)[:401]
+CIRCLES = [
+    ([(-6, -5, 0, 1), (-9, 9, 5, -4), (5, 5, 9, -7), (4, 5, 6, 5), (7, -4, -7, 1), (0, -8, -8, -6), (9, -5, -9, -7)],
+     [9, 7, -1, -3, 2, 3, 1], (0, 0, 0, 3)),
+    ([(3, -6), (3, -4), (4, 2), (-3, 2), (-7, 6), (1, 6), (8, 3)], [6, -1, -1, -3, 2, 2, 7], (0, 0)),
+    ([(2, -9, 6, -6), (0, 7, -5, 2), (0, 0, 0, 9), (6, -5, -3, 5), (-1, 3, -5, 5), (-1, -8, 9, 6), (-1, -2, -8, 7),
+      (-4, -8, -5, 1)], [-5, 4, 0, 5, -2, -1, 4, 0], (0, 0, 0, 5)),
+]
 
 
 def oracle_deal(columns, goal, thing):
@@ -170,6 +178,20 @@ class LeastTest(unittest.TestCase):
         self.assertIs(is_told_least([(0,)], [-5], (0,), ("endless", (2,))), False)
         self.assertIs(is_told_least([], [], (0,), ("least", (1, ()), (1, (7,)))), True)
         self.assertIs(is_told_least([], [], (0,), ("least", (1, ()), (2, (4,)))), False)
+
+    def test_no_going_round_in_circles(self):
+        """Here searches that take any of several equal lines out of the basis come back to where they were."""
+        def give_up(*_):
+            self.fail("the search does not end")
+        held = signal.signal(signal.SIGALRM, give_up)
+        signal.alarm(20)
+        try:
+            for columns, costs, goal in CIRCLES:
+                told = least_deal(columns, costs, goal)
+                self.assertTrue(oracle_least(columns, costs, goal, told, dealt(columns, goal) is not None))
+        finally:
+            signal.alarm(0)
+            signal.signal(signal.SIGALRM, held)
 
     def test_judge(self):
         r = seeded(22)

@@ -128,6 +128,17 @@ class CornersTest(unittest.TestCase):
         self.assertEqual(corners([(1, 0, 0, 0), (0, 1, 0, 0), (1, 1, 0, 0), (0, 0, 0, 0), (1, 1, 0, 0)]),
                          ((0, 1, 0, 0), (1, 0, 0, 0), (1, 1, 0, 0)))
 
+    def test_middles_in_longer_rows(self):
+        self.assertEqual(corners([(2, 0, 0, 0), (1, 0, 0, 0), (1, 1, 0, 0), (0, 2, 0, 0)]), ((0, 2, 0, 0), (2, 0, 0, 0)))
+        r = seeded(38)
+        for many in (4, 5, 7):
+            for _ in range(20):
+                ends = rows_of(r, many, 4, 9)
+                middles = [tuple((a + b) for a, b in zip(r.choice(ends), r.choice(ends))) for _ in range(6)]
+                rows = [tuple(2 * a for a in end) for end in ends] + middles
+                self.check_corners(rows, corners(rows))
+                self.assertLessEqual(len(corners(rows)), 4)
+
     def check_corners(self, rows, told):
         """Just those that are no mixture of the others, one by one."""
         different = sorted(set(rows))

@@ -140,6 +140,7 @@ class UnkeptTest(unittest.TestCase):
                 check_judge(self, lambda thing: is_unkept(kind, rose, thing), told,
                             lambda thing: self.oracle(kind, rose, thing))
                 self.assertIs(is_unkept(kind, rose, (told[0] - len(kind), told[1])), False)
+                self.assertIs(is_unkept(kind, rose, (len(kind), told[1])), False)
                 self.assertIs(is_unkept(kind, rose, (LONG, told[1])), False)
             else:
                 for _ in range(3):
