@@ -126,7 +126,7 @@ class SharesTest(unittest.TestCase):
                     rose = rose_kept(kind, any_rose(r, kind.size))
                     self.assertLessEqual(value(total(rose, one)), value(total(rose, other)))
                     self.assertIs(is_bar(kind, one, other, rose), False)
-        self.assertGreater(min(seen.values()), 90)
+        self.assertGreater(min(seen.values()), 60)
 
     def test_great_numbers(self):
         r = seeded(133)

@@ -70,7 +70,7 @@ class RestsTest(unittest.TestCase):
                 self.assertTrue(oracle(whole, part, flaw), (vars(whole), vars(part), flaw))
                 self.assertIs(is_rest_flaw(whole, part, flaw), True)
                 seen[flaw[0]] += 1
-        self.assertGreater(min(seen.values()), 50)
+        self.assertGreater(min(seen.values()), 20)
 
     def test_judge(self):
         r = seeded(112)

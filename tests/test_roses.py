@@ -182,7 +182,7 @@ class KeptTest(unittest.TestCase):
                 for _ in range(5):
                     step = any_step(r, size)
                     self.assertEqual(len({going(rose, led_by(table, step)) for table in kind.tables}), 1)
-        self.assertGreater(min(seen.values()), 50)
+        self.assertGreater(min(seen.values()), 20)
 
     def test_wrong(self):
         check_refusals(self, is_kept, {"kind": plain_kind(2), "rose": Rose(2, 1, [])},
