@@ -68,3 +68,15 @@ def is_table_of(thing, many):
 
 def is_ratio(thing):
     return is_row_of(thing, 2) and thing[1] >= 1 and gcd(thing[0], thing[1]) == 1
+
+
+def is_index(thing, many):
+    """The index of one of so many things."""
+    return is_number(thing) and 0 <= thing < many
+
+
+def is_lot(thing, many):
+    """An ascending tuple of different indexes."""
+    if not isinstance(thing, tuple) or not all([is_index(index, many) for index in thing]):
+        return False
+    return all([here < after for here, after in zip(thing, thing[1:])])

@@ -131,20 +131,29 @@ def flat_corners(points, normal):
     return [seen[flat] for flat in ring(list(seen))]
 
 
-def space_corners(points):
-    """Of ascending different points in space."""
+def shell_start(points):
+    """Of ascending different points in space: a normal across them, and the indexes of four that no plane holds.
+
+    The normal is zeros if all points are on one line; if they are in one plane, there is None for the four.
+    """
     low, high = points[0], points[-1]
     along = minus(high, low)
     crosses = [space_cross(along, minus(point, low)) for point in points]
     wide = greatest_at([inner(normal, normal) for normal in crosses])
     normal = crosses[wide]
-    if normal == (0, 0, 0):
-        return [low] if low == high else [low, high]
     heights = [abs(inner(normal, minus(point, low))) for point in points]
     top = greatest_at(heights)
-    if heights[top] == 0:
+    return normal, None if heights[top] == 0 else (0, len(points) - 1, wide, top)
+
+
+def space_corners(points):
+    """Of ascending different points in space."""
+    normal, first = shell_start(points)
+    if normal == (0, 0, 0):
+        return points[:1] if len(points) == 1 else [points[0], points[-1]]
+    if first is None:
         return flat_corners(points, normal)
-    return Shell(points, (0, len(points) - 1, wide, top)).corners()
+    return Shell(points, first).corners()
 
 
 def extreme(points):

@@ -31,6 +31,39 @@ LISTED = {
     "claims": "bar(kind, one, other) is_bar(kind, one, other, thing) never_longer(kind, one, other) folded(kind, trip) "
               "compared(kind, one, other)",
     "factors": "least_factor(kind, one, other) factor_shares(kind, one, other) factor_rose(kind, one, other)",
+    "logs": "is_log(size, thing) log_from(rose, steps) keeps(rose, log) log_images(kind, log) "
+            "is_way(kind, log, step, thing) way_time(kind, log, way) shortest_way(kind, log, step) shortcut(kind, log) "
+            "is_shortcut(kind, log, thing) rose_for(kind, log)",
+    "stretches": "greatest_time(kind, log, trip) roof(kind, log, trip) is_roof(kind, log, trip, ratio, thing) "
+                 "climb(kind, log, trip) is_climb(kind, log, trip, thing) least_time(kind, log, trip) "
+                 "floor(kind, log, trip) is_floor(kind, log, trip, ratio, thing) rose_at(kind, log, trip, ratio) "
+                 "greatest_rose(kind, log) tightened(kind, log) sure_entries(kind, log)",
+    "loosened": "loosened(size, log, slack) stretched(size, log, factor) least_slack(kind, log) slack_way(kind, log) "
+                "least_stretch(kind, log) stretch_way(kind, log) clashes(kind, log) taken_back(kind, log)",
+    "plane": "polygon(rose) edges(rose) double_area(rose) field(trip) field_area(trip) border(rose)",
+    "sticks": "stick_sum(size, pairs) sticks(rose) stick_rows(size, steps) stick_bar(size, one, other)",
+    "threes": "parts(rose) three_roses(steps) three_bar(one, other)",
+    "fits": "closings(one, other) fit(one, other) is_fit(one, other, thing)",
+    "space": "hlawka(size, x, y, z) hlawka_bar(x, y, z) two_parts(rose) is_two_parts(rose, thing)",
+    "facts": "is_fact(size, thing) slack(rose, fact) satisfies(rose, facts) opposite(size, fact) "
+             "combined(size, facts, weights) told_facts(size, trips, times) led_facts(kind, facts) averaged(kind, fact)",
+    "quarrels": "agreed(kind, facts) quarrel(kind, facts) is_quarrel(kind, facts, thing)",
+    "following": "follows(kind, facts, claim) derivation(kind, facts, claim) counter(kind, facts, claim) "
+                 "is_derivation(kind, facts, claim, thing) is_counter(kind, facts, claim, thing)",
+    "ranges": "greatest(kind, facts, one, other) reaching(kind, facts, one, other) endless(kind, facts, one, other) "
+              "is_endless(kind, facts, one, other, thing) stretch(kind, facts, trip) answer(kind, facts, claim)",
+    "grounds": "least_grounds(kind, facts, claim) least_quarrels(kind, facts) greatest_lots(kind, facts) "
+               "needless(kind, facts) lean(kind, facts) bridge(kind, facts, lot, claim)",
+    "settling": "settles(kind, facts, trips, claim) settling(kind, facts, trips, claim) "
+                "parted(kind, facts, trips, claim) is_settling(kind, facts, trips, claim, thing) "
+                "is_parted(kind, facts, trips, claim, thing)",
+    "tries": "least_tries(kind, facts, trips, claim) stubborn(kind, facts, trips, claim) "
+             "is_stubborn(kind, facts, trips, claim, thing)",
+    "routes": "keep_up(kind, facts, ones, others) weights(kind, facts, ones, others) outrun(kind, facts, ones, others) "
+              "is_weights(kind, facts, ones, others, thing) is_outrun(kind, facts, ones, others, thing)",
+    "bests": "best_rose(kind, facts, routes, index) bests(kind, facts, routes) surely(kind, facts, routes) "
+             "are_enough(kind, facts, routes, indexes) enough(kind, facts, routes)",
+    "safest": "safest(kind, routes) mix_shares(kind, routes, mix, ratio) trial(kind, routes)",
 }
 
 

@@ -237,7 +237,7 @@ class LanguageTest(unittest.TestCase):
                     self.assertIn(id(node), inside, f"{name}:{node.lineno}")
 
     def test_views_are_used_at_once(self):
-        takers = ("list", "tuple", "dict", "sorted", "sum", "any", "all", "enumerate", "zip", "min", "max")
+        takers = ("list", "tuple", "dict", "sorted", "sum", "any", "all", "enumerate", "zip", "min", "max", "combinations")
         for name, _, tree in self.trees():
             fine = set()
             for node in ast.walk(tree):
@@ -251,6 +251,18 @@ class LanguageTest(unittest.TestCase):
                     self.assertIn(id(node), fine, f"{name}:{node.lineno}")
                 if isinstance(node, ast.Call) and getattr(node.func, "attr", "") in ("items", "keys", "values"):
                     self.assertIn(id(node), fine, f"{name}:{node.lineno}")
+
+    def test_combinations_are_iterated_at_once(self):
+        for name, _, tree in self.trees():
+            fine = set()
+            for node in ast.walk(tree):
+                if isinstance(node, (ast.For, ast.comprehension)):
+                    fine.add(id(node.iter))
+            for node in ast.walk(tree):
+                if isinstance(node, ast.Call) and getattr(node.func, "id", "") in ALLOWED_IMPORTS["itertools"]:
+                    self.assertIn(id(node), fine, f"{name}:{node.lineno}")
+                    many = node.args[1]
+                    self.assertIsInstance(many, (ast.Constant, ast.Name), f"{name}:{node.lineno}")
 
     def test_loops_leave_alone_what_they_go_over(self):
         for name, function, _ in self.functions():
