@@ -44,8 +44,13 @@ class Basis:
         lead, old = lift[out], self.scale
         line, level = self.inverse[out], self.levels[out]
         for k, factor in enumerate(lift):
-            if k != out and (factor != 0 or lead != old):
-                self.levels[k] = (lead * self.levels[k] - factor * level) // old
+            if k == out or (factor == 0 and lead == old):
+                continue
+            self.levels[k] = (lead * self.levels[k] - factor * level) // old
+            # Most lines need no more than the new scale: this is what takes the time.
+            if factor == 0:
+                self.inverse[k] = [lead * here // old for here in self.inverse[k]]
+            else:
                 self.inverse[k] = [(lead * here - factor * there) // old for here, there in zip(self.inverse[k], line)]
         self.members[out] = member
         self.scale = lead
@@ -57,6 +62,10 @@ def sparse(column):
 
 def price_of(prices, column):
     return sum([prices[k] * number for k, number in column])
+
+
+def prices_of(prices, columns):
+    return [sum([prices[k] * number for k, number in column]) for column in columns]
 
 
 def goes_first(basis, lift, one, other):
@@ -84,7 +93,7 @@ def gather(basis, columns, whole):
     """Put columns in the place of stand-ins as long as that helps, or, if not whole, until none is needed."""
     while whole or basis.lack() > 0:
         prices = basis.stand_in_prices()
-        worths = [price_of(prices, column) for column in columns]
+        worths = prices_of(prices, columns)
         best = max(worths, default=0)
         if best <= 0:
             return
@@ -101,7 +110,7 @@ def lessen(basis, columns, costs):
     """Lower the cost as long as that goes; the counts of an endless lowering, otherwise None."""
     tolls = basis.stand_in_prices()
     # Stand-ins stay at 0 only if no column enters that has a toll.
-    free = [k for k, column in enumerate(columns) if price_of(tolls, column) == 0]
+    free = [k for k, toll in enumerate(prices_of(tolls, columns)) if toll == 0]
     while len(free) > 0:
         prices = cost_prices(basis, costs)
         gains = [price_of(prices, columns[k]) - basis.scale * costs[k] for k in free]
