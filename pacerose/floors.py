@@ -8,7 +8,7 @@ from pacerose.middles import turned_rows
 from pacerose.moves import Moves
 from pacerose.roses import Rose
 from pacerose.shares import told_images
-from pacerose.simplex import solved
+from pacerose.simplex import begun, solved_from
 from pacerose.trips import gathered, many_times
 from pacerose.vectors import inner, lowest, zeros
 
@@ -35,7 +35,8 @@ class FloorSearch:
         columns.extend([[(below + i, 1)] for i in range(len(trip))])
         self.costs.extend(zeros(len(trip)))
         goal = (*zeros(below), *[count for _, count in trip])
-        _, self.deal, self.prices = solved(columns, self.costs, goal)
+        # The steps of the trip may be left over: the search begins with that.
+        _, self.deal, self.prices = solved_from(begun(columns, goal, len(trip)), columns, self.costs)
 
     def time(self):
         scale, counts = self.deal

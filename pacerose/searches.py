@@ -13,7 +13,7 @@ from pacerose.kinds import led_images
 from pacerose.middles import turned_rows
 from pacerose.moves import Moves
 from pacerose.roses import Rose
-from pacerose.simplex import deal_or_dam, solved
+from pacerose.simplex import begun, deal_or_dam_from, solved_from
 from pacerose.trips import gathered
 
 
@@ -75,12 +75,16 @@ class Search:
             told[line] = number
         return tuple(told)
 
+    def begun(self):
+        """What may be left over of the others' steps is no gap: the search begins with it."""
+        return begun(self.columns, self.goal(), len(self.others))
+
     def deal_or_dam(self):
-        return deal_or_dam(self.columns, self.goal())
+        return deal_or_dam_from(self.begun(), self.columns)
 
     def least(self, costs):
         """The answer of the search for the least cost: costs are for the terms, what is left costs nothing."""
-        return solved(self.columns, costs + [0] * (len(self.columns) - len(costs)), self.goal())
+        return solved_from(self.begun(), self.columns, costs + [0] * (len(self.columns) - len(costs)))
 
     def shares(self, often, counts):
         """The shares in a deal whose scale is the goal's count."""

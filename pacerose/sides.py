@@ -12,8 +12,8 @@ def space_sides(points):
     if first is None:
         return [flat_corners(points, normal)]
     # Triangles beside each other in one plane look in one direction: together they are a side.
-    found = {}
-    for a, b, c, ahead, _ in list(Shell(points, first).faces.values()):
+    shell, found = Shell(points, first), {}
+    for a, b, c, ahead, _ in list(shell.faces.values()):
         found.setdefault(reduced(ahead), []).extend([points[a], points[b], points[c]])
     return [flat_corners(found[ahead], ahead) for ahead in found]
 

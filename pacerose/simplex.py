@@ -155,18 +155,27 @@ def told_prices(basis, columns, costs):
     return scaled_down(basis.scale, [price + most * toll for price, toll in zip(prices, tolls)])
 
 
-def deal_or_dam(columns, goal):
-    """The pair of a deal and None, or of None and a dam."""
+def begun(columns, goal, spare):
+    """A basis in which the last columns, so many, stand for themselves from the outset.
+
+    Each of these is 1 in a line of its own and 0 elsewhere; the goal is not below 0 in these lines.
+    """
     basis = Basis(goal)
+    for at in range(len(columns) - spare, len(columns)):
+        basis.members[columns[at][0][0]] = at
+    return basis
+
+
+def deal_or_dam_from(basis, columns):
+    """The pair of a deal and None, or of None and a dam."""
     gather(basis, columns, False)
     if basis.lack() > 0:
         return None, reduced(basis.stand_in_prices())
     return told_deal(basis, len(columns)), None
 
 
-def solved(columns, costs, goal):
+def solved_from(basis, columns, costs):
     """("none", dam), ("endless", counts) or ("least", deal, prices)."""
-    basis = Basis(goal)
     gather(basis, columns, True)
     if basis.lack() > 0:
         return "none", reduced(basis.stand_in_prices())
@@ -174,3 +183,11 @@ def solved(columns, costs, goal):
     if counts is not None:
         return "endless", counts
     return "least", told_deal(basis, len(columns)), told_prices(basis, columns, costs)
+
+
+def deal_or_dam(columns, goal):
+    return deal_or_dam_from(Basis(goal), columns)
+
+
+def solved(columns, costs, goal):
+    return solved_from(Basis(goal), columns, costs)
