@@ -80,3 +80,8 @@ def is_lot(thing, many):
     if not isinstance(thing, tuple) or not all([is_index(index, many) for index in thing]):
         return False
     return all([here < after for here, after in zip(thing, thing[1:])])
+
+
+def is_word(thing):
+    """One to eight letters from a to z."""
+    return isinstance(thing, str) and 1 <= len(thing) <= 8 and all(["a" <= letter <= "z" for letter in thing])

@@ -64,6 +64,22 @@ LISTED = {
     "bests": "best_rose(kind, facts, routes, index) bests(kind, facts, routes) surely(kind, facts, routes) "
              "are_enough(kind, facts, routes, indexes) enough(kind, facts, routes)",
     "safest": "safest(kind, routes) mix_shares(kind, routes, mix, ratio) trial(kind, routes)",
+    "walks": "Walk(size, rows) names(walk) walked(rose, walk, counts) parts(walk)",
+    "walkclaims": "always(kind, facts, one, other) walk_papers(kind, facts, one, other) slower(kind, facts, one, other) "
+                  "ahead(walk, number) when(kind, one, other) against(kind, one, other)",
+    "walktexts": "walk_text(walk) read_walk(size, text)",
+    "meeting": "cost(rose, party, spot) pulls(rose, party, spot) are_pulls(rose, party, spot, thing) "
+               "cheaper(rose, party, spot) best_spot(rose, party)",
+    "halving": "cost_rose(party, spot) spread_rose(party) never_worse(party, one, other) worse_row(party, one, other) "
+               "halves(party, spot) better_place(party, spot) halving(party) fence(party) is_fence(party, thing)",
+    "regrets": "regret(party, spot) regret_row(party, spot) least_regret(party) calm_spot(party) calm_papers(party) "
+               "are_calm(party, ratio, spot, papers)",
+    "fronts": "holds(party, spot) stops(party, spot) are_stops(party, spot, thing) lean(party, spot)",
+    "winds": "Wind(rose, scale, row) wind_going(wind, step) wind_total(wind, trip) drift(wind, step) blown(wind) "
+             "wind_of(rose) lopsided(rose) is_lopsided(rose, thing)",
+    "rounds": "one_more(size, one, other) windy_shares(size, one, other) windy_bar(size, one, other) "
+              "is_windy_shares(size, one, other, thing) is_windy_bar(size, one, other, thing) "
+              "compared_windy(size, one, other)",
 }
 
 
