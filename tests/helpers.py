@@ -13,7 +13,8 @@ ROOT = os.path.dirname(os.path.dirname(os.path.abspath(__file__)))
 PACKAGE = os.path.join(ROOT, "pacerose")
 MODULES = """errors rows ratios deals leasts hulls kinds roses ways sums mixes sectors reaches rests trips shares claims
 factors logs stretches loosened plane sticks threes fits space facts quarrels following ranges grounds settling tries
-routes bests safest walks walkclaims walktexts meeting halving regrets fronts winds rounds""".split()
+routes bests safest walks walkclaims walktexts meeting halving regrets fronts winds rounds
+drifts nets flows straights detours moreties atlas deskwords desk atlastexts""".split()
 NINE = 999999999
 LONG = 10 ** 400 + 7
 

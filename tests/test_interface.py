@@ -80,6 +80,29 @@ LISTED = {
     "rounds": "one_more(size, one, other) windy_shares(size, one, other) windy_bar(size, one, other) "
               "is_windy_shares(size, one, other, thing) is_windy_bar(size, one, other, thing) "
               "compared_windy(size, one, other)",
+    "drifts": "wind_for(size, log) windy_quarrel(size, log) is_windy_quarrel(size, log, thing) "
+              "least_gap(size, log, one, other) windy_floor(size, log, one, other) "
+              "is_windy_floor(size, log, one, other, ratio, thing) wind_at(size, log, one, other, ratio) "
+              "drift_stretch(size, log, step)",
+    "nets": "Net(size, places, ties) paths(net, first, last) path_trip(net, path) quickest(net, rose, first) "
+            "quick_paths(net, rose, first) are_quickest(net, rose, first, times, by_paths) with_tie(net, tie) "
+            "without_tie(net, tie)",
+    "flows": "is_flow(net, first, last, thing) flow_trip(net, first, last, flow) "
+             "net_shares(kind, net, first, last, trip) net_bar(kind, net, first, last, trip) "
+             "is_net_shares(kind, net, first, last, trip, thing) is_net_bar(kind, net, first, last, trip, thing) "
+             "surely_within(kind, net, first, last, trip)",
+    "straights": "straight_path(net, first, last) bending_rose(kind, net, first, last) needless(net) trimmed(net) "
+                 "follows(one, other) follow_paths(one, other) follow_bar(kind, one, other)",
+    "detours": "detour(kind, net, first, last) detour_shares(kind, net, first, last) "
+               "detour_rose(kind, net, first, last) are_detour(kind, net, first, last, told, shares, rose) "
+               "net_detour(kind, one, other) worst_tie(kind, one, other) full_net(size, places)",
+    "moreties": "helps(kind, net, first, last, tie) helping(kind, net, first, last, tie) "
+                "helpless(kind, net, first, last, tie) is_helping(kind, net, first, last, tie, thing) "
+                "are_helpless(kind, net, first, last, tie, thing)",
+    "atlas": "Atlas(kind)",
+    "deskwords": "errand_text(errand) read_errand(text) deed_text(deed) read_deed(line)",
+    "desk": "Desk(atlas)",
+    "atlastexts": "atlas_text(atlas) read_atlas(text)",
 }
 
 
@@ -104,6 +127,22 @@ class InterfaceTest(unittest.TestCase):
         self.assertLessEqual({"__init__", "__eq__"}, set(vars(roses.Rose)))
         self.assertEqual(list(vars(kinds.plain_kind(1))), ["size", "tables"])
         self.assertEqual(list(vars(roses.Rose(1, 1, []))), ["size", "scale", "rows"])
+
+    def test_methods_of_atlases(self):
+        held = importlib.import_module("pacerose.atlas").Atlas
+        listed = ("place(word, step) move(word, step) drop(word) told(errand, low, high) fact(one, other, extra) "
+                  "forget(at) ask(name, one, other, extra) close(name) attempt(deeds) undo() redo() log() places() "
+                  "entries() questions() facts() answer(name) stretch(errand) grounds(name) sides(name) worth(name) "
+                  "changed() __len__() __eq__(other)")
+        for entry in listed.replace(", ", ",").split():
+            name, _, told = entry.rstrip(")").partition("(")
+            self.assertEqual(list(inspect.signature(vars(held)[name]).parameters), ["self", *[part for part in told.split(",") if part]])
+        self.assertEqual(held(importlib.import_module("pacerose.kinds").plain_kind(2)).kind.size, 2)
+        said = vars(importlib.import_module("pacerose.desk").Desk)["say"]
+        self.assertEqual(list(inspect.signature(said).parameters), ["self", "line"])
+        for module, name in [("walks", "Walk"), ("winds", "Wind"), ("nets", "Net")]:
+            self.assertLessEqual({"__init__", "__eq__"}, set(vars(getattr(importlib.import_module(f"pacerose.{module}"), name))))
+        importlib.import_module("pacerose.atlasdeeds")
 
     def test_package_defines_nothing(self):
         package = importlib.import_module("pacerose")

@@ -30,7 +30,8 @@ NODES = (ast.Module, ast.Expr, ast.Constant, ast.ImportFrom, ast.alias, ast.Func
          ast.Subscript, ast.Slice, ast.Tuple, ast.List, ast.Dict, ast.Starred, ast.BinOp, ast.UnaryOp, ast.BoolOp,
          ast.Compare, ast.IfExp, ast.ListComp, ast.DictComp, ast.comprehension, ast.Add, ast.Sub, ast.Mult,
          ast.FloorDiv, ast.Mod, ast.Pow, ast.BitAnd, ast.USub, ast.Not, ast.And, ast.Or, ast.Eq, ast.NotEq, ast.Lt, ast.LtE,
-         ast.Gt, ast.GtE, ast.Is, ast.IsNot, ast.In, ast.NotIn)
+         ast.Gt, ast.GtE, ast.Is, ast.IsNot, ast.In, ast.NotIn, ast.Try, ast.ExceptHandler, ast.JoinedStr,
+         ast.FormattedValue)
 
 
 def sources():

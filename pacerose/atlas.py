@@ -1,0 +1,163 @@
+"""Live atlases: places, what is told of going between them, and questions, all with undo."""
+
+from pacerose.atlasdeeds import after, check_errand, check_question, logged
+from pacerose.atlasstates import answer_for, begun_state, first_lot, told_just
+from pacerose.claims import made_folded
+from pacerose.errors import NothingDone, NothingUndone
+from pacerose.following import derivation_and_counter
+from pacerose.kinds import check_kind
+from pacerose.quarrels import agreed_and_quarrel
+from pacerose.ranges import Farthest
+
+
+def ends(kind, facts, trip):
+    """For the least and the greatest time of the trip the time and a rose that reaches it; without end just one."""
+    low, high = Farthest(kind, facts, (), trip), Farthest(kind, facts, trip, ())
+    above, below = low.greatest()
+    found = [((-above, below), low.reaching())]
+    return found if high.greatest() is None else found + [(high.greatest(), high.reaching())]
+
+
+def would_answer(kind, facts, claim, trip):
+    """Whether an end of its stretch, told of the trip, answers the claim, which is open."""
+    for time, rose in ends(kind, facts, trip):
+        if answer_for(kind, facts + told_just(trip, time), rose, claim) != "open":
+            return True
+    return False
+
+
+class Atlas:
+    """History: the deeds that stand, with what stood ahead of each; undone: those taken back, with what came of it."""
+
+    def __init__(self, kind):
+        check_kind(kind)
+        self.kind = kind
+        self.state = begun_state(kind)
+        self.history = []
+        self.undone = []
+
+    def __len__(self):
+        return len(self.history)
+
+    def __eq__(self, other):
+        if not isinstance(other, Atlas):
+            return False
+        here, there = self.state, other.state
+        if self.kind != other.kind or here.homes != there.homes:
+            return False
+        return here.listed == there.listed and here.asked == there.asked
+
+    def carry_out(self, deed):
+        """Do a deed, told as in a log."""
+        state = after(self.state, deed)
+        self.history.append((logged(deed), self.state))
+        self.state = state
+        self.undone = []
+
+    def place(self, word, step):
+        self.carry_out(("place", word, step))
+
+    def move(self, word, step):
+        self.carry_out(("move", word, step))
+
+    def drop(self, word):
+        self.carry_out(("drop", word))
+
+    def told(self, errand, low, high):
+        self.carry_out(("told", errand, low, high))
+
+    def fact(self, one, other, extra):
+        self.carry_out(("fact", one, other, extra))
+
+    def forget(self, at):
+        self.carry_out(("forget", at))
+
+    def ask(self, name, one, other, extra):
+        self.carry_out(("ask", name, one, other, extra))
+
+    def close(self, name):
+        self.carry_out(("close", name))
+
+    def attempt(self, deeds):
+        self.carry_out(("attempt", deeds))
+
+    def undo(self):
+        if len(self.history) == 0:
+            raise NothingDone("no deed stands")
+        deed, state = self.history.pop()
+        self.undone.append((deed, self.state))
+        self.state = state
+
+    def redo(self):
+        if len(self.undone) == 0:
+            raise NothingUndone("no deed was taken back")
+        deed, state = self.undone.pop()
+        self.history.append((deed, self.state))
+        self.state = state
+
+    def log(self):
+        return [deed for deed, _ in self.history]
+
+    def places(self):
+        homes = self.state.homes
+        return {word: homes[word] for word in sorted(list(homes))}
+
+    def entries(self):
+        return list(self.state.listed)
+
+    def questions(self):
+        asked = self.state.asked
+        return {name: asked[name] for name in sorted(list(asked))}
+
+    def facts(self):
+        return self.state.all_facts()
+
+    def answer(self, name):
+        check_question(self.state, name)
+        return self.state.answer(name)
+
+    def stretch(self, errand):
+        check_errand(self.state, errand)
+        trip, facts = self.state.trip(errand), self.state.all_facts()
+        above, below = Farthest(self.kind, facts, (), trip).greatest()
+        return (-above, below), Farthest(self.kind, facts, trip, ()).greatest()
+
+    def grounds(self, name):
+        answer = self.answer(name)
+        if answer == "open":
+            return None
+        groups = [self.state.facts_of(entry) for entry in self.state.listed]
+        return first_lot(self.kind, groups, self.state.claim(name), answer)
+
+    def sides(self, name):
+        if self.answer(name) != "open":
+            return None
+        facts, claim = self.state.all_facts(), self.state.claim(name)
+        return agreed_and_quarrel(self.kind, [*facts, claim])[0], derivation_and_counter(self.kind, facts, claim)[1]
+
+    def worth(self, name):
+        if self.answer(name) != "open":
+            return []
+        facts, claim, known, found = self.state.all_facts(), self.state.claim(name), {}, []
+        words = sorted(list(self.state.homes))
+        for start in words:
+            for stop in words:
+                trip = self.state.trip([(start, stop, 1)])
+                # Ways that take equally long in all roses of the kind are worth as much.
+                key = made_folded(self.kind, trip)
+                if start != stop and key not in known:
+                    known[key] = would_answer(self.kind, facts, claim, trip)
+                if start != stop and known[key]:
+                    found.append((start, stop))
+        return found
+
+    def changed(self):
+        if len(self.history) == 0:
+            return {}
+        state, found = self.history[-1][1], {}
+        for name in sorted(list(self.state.asked)):
+            if name in state.asked and state.asked[name] == self.state.asked[name]:
+                told = (state.answer(name), self.state.answer(name))
+                if told[0] != told[1]:
+                    found[name] = told
+        return found
