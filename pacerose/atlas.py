@@ -1,29 +1,12 @@
 """Live atlases: places, what is told of going between them, and questions, all with undo."""
 
 from pacerose.atlasdeeds import after, check_errand, check_question, logged
-from pacerose.atlasstates import answer_for, begun_state, first_lot, told_just
+from pacerose.atlasstates import begun_state, contrary, first_lot
 from pacerose.claims import made_folded
 from pacerose.errors import NothingDone, NothingUndone
-from pacerose.following import derivation_and_counter
 from pacerose.kinds import check_kind
-from pacerose.quarrels import agreed_and_quarrel
-from pacerose.ranges import Farthest
-
-
-def ends(kind, facts, trip):
-    """For the least and the greatest time of the trip the time and a rose that reaches it; without end just one."""
-    low, high = Farthest(kind, facts, (), trip), Farthest(kind, facts, trip, ())
-    above, below = low.greatest()
-    found = [((-above, below), low.reaching())]
-    return found if high.greatest() is None else found + [(high.greatest(), high.reaching())]
-
-
-def would_answer(kind, facts, claim, trip):
-    """Whether an end of its stretch, told of the trip, answers the claim, which is open."""
-    for time, rose in ends(kind, facts, trip):
-        if answer_for(kind, facts + told_just(trip, time), rose, claim) != "open":
-            return True
-    return False
+from pacerose.leans import farthest, least_and_rose
+from pacerose.worths import Worths
 
 
 class Atlas:
@@ -118,36 +101,34 @@ class Atlas:
 
     def stretch(self, errand):
         check_errand(self.state, errand)
-        trip, facts = self.state.trip(errand), self.state.all_facts()
-        above, below = Farthest(self.kind, facts, (), trip).greatest()
-        return (-above, below), Farthest(self.kind, facts, trip, ()).greatest()
+        trip, facts = made_folded(self.kind, self.state.trip(errand)), self.state.lean()
+        return least_and_rose(self.kind, facts, trip)[0], farthest(self.kind, facts, trip, ())[0]
 
     def grounds(self, name):
         answer = self.answer(name)
         if answer == "open":
             return None
-        groups = [self.state.facts_of(entry) for entry in self.state.listed]
-        return first_lot(self.kind, groups, self.state.claim(name), answer)
+        return first_lot(self.kind, self.state.groups(), self.state.claim(name), answer)
+
+    def both_sides(self, name):
+        facts, claim = self.state.lean(), self.state.claim(name)
+        return contrary(self.kind, facts, claim, "no"), contrary(self.kind, facts, claim, "sure")
 
     def sides(self, name):
-        if self.answer(name) != "open":
-            return None
-        facts, claim = self.state.all_facts(), self.state.claim(name)
-        return agreed_and_quarrel(self.kind, [*facts, claim])[0], derivation_and_counter(self.kind, facts, claim)[1]
+        return self.both_sides(name) if self.answer(name) == "open" else None
 
     def worth(self, name):
         if self.answer(name) != "open":
             return []
-        facts, claim, known, found = self.state.all_facts(), self.state.claim(name), {}, []
-        words = sorted(list(self.state.homes))
+        worths = Worths(self.kind, self.state.lean(), self.state.claim(name), self.both_sides(name))
+        words, known, found = sorted(list(self.state.homes)), {}, []
         for start in words:
             for stop in words:
-                trip = self.state.trip([(start, stop, 1)])
                 # Ways that take equally long in all roses of the kind are worth as much.
-                key = made_folded(self.kind, trip)
-                if start != stop and key not in known:
-                    known[key] = would_answer(self.kind, facts, claim, trip)
-                if start != stop and known[key]:
+                trip = made_folded(self.kind, self.state.trip([(start, stop, 1)]))
+                if start != stop and trip not in known:
+                    known[trip] = worths.is_worth(trip)
+                if start != stop and known[trip]:
                     found.append((start, stop))
         return found
 

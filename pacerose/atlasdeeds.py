@@ -50,13 +50,12 @@ def check_six(things):
 def agreeing(state, homes, listed):
     """What stands with other homes and entries: facts that quarrel are refused."""
     told = State(state.kind, homes, listed, state.asked, state.rose)
-    facts = told.all_facts()
+    facts = told.lean()
     if keeps_facts(state.rose, facts):
         return told
     rose = agreed_and_quarrel(state.kind, facts)[0]
     if rose is None:
-        groups = [told.facts_of(entry) for entry in listed]
-        raise Quarrels(first_lot(state.kind, groups, None, "quarrel"))
+        raise Quarrels(first_lot(state.kind, told.groups(), None, "quarrel"))
     return State(state.kind, homes, listed, state.asked, rose)
 
 

@@ -4,6 +4,7 @@ from itertools import combinations
 
 from pacerose.facts import keeps_facts, opposite_of, slack_of
 from pacerose.following import derivation_and_counter
+from pacerose.leans import lean_fact, lean_facts
 from pacerose.quarrels import agreed_and_quarrel
 from pacerose.roses import Rose
 from pacerose.trips import gathered
@@ -37,11 +38,23 @@ class State:
     def all_facts(self):
         return [fact for entry in self.listed for fact in self.facts_of(entry)]
 
+    def lean(self):
+        """All facts, as short as can be."""
+        return lean_facts(self.kind, self.all_facts())
+
     def claim(self, name):
-        return self.fact_of(self.asked[name])
+        return lean_fact(self.kind, self.fact_of(self.asked[name]))
+
+    def groups(self):
+        """The facts of each entry, as short as can be."""
+        return [lean_facts(self.kind, self.facts_of(entry)) for entry in self.listed]
 
     def answer(self, name):
-        return answer_for(self.kind, self.all_facts(), self.rose, self.claim(name))
+        claim = self.claim(name)
+        # The rose keeps the facts: so one of the three answers is out already.
+        if slack_of(self.rose, claim)[0] >= 0:
+            return "open" if contrary(self.kind, self.lean(), claim, "sure") is not None else "sure"
+        return "open" if contrary(self.kind, self.lean(), claim, "no") is not None else "no"
 
 
 def begun_state(kind):
@@ -57,13 +70,6 @@ def told_between(trip, low, high):
 def told_just(trip, time):
     fact = (trip, (), time)
     return [opposite_of(fact), fact]
-
-
-def answer_for(kind, facts, rose, claim):
-    """The answer for facts that agree: the rose satisfies them, so one of the three answers is out already."""
-    if slack_of(rose, claim)[0] >= 0:
-        return "sure" if derivation_and_counter(kind, facts, claim)[1] is None else "open"
-    return "no" if agreed_and_quarrel(kind, [*facts, claim])[0] is None else "open"
 
 
 def contrary(kind, facts, claim, told):
