@@ -19,7 +19,7 @@ def check_two_walks(kind, one, other):
 def paired_parts(one, other):
     """For "" and each name the pair of both parts; a walk that lacks a name has the trip of nothing there."""
     here, there = parts_of(one), parts_of(other)
-    return {name: (here.get(name, [()]), there.get(name, [()])) for name in sorted(list({**here, **there}))}
+    return {name: (here.get(name, [()]), there.get(name, [()])) for name in sorted(set(list(here) + list(there)))}
 
 
 def checked_parts(kind, facts, one, other):
