@@ -170,6 +170,16 @@ class DeskTest(unittest.TestCase):
         self.assertEqual(len(atlas), 10)
         self.assertEqual(Desk(atlas=atlas).say(line="changed"), "none")
 
+    def test_one_way_worth_trying(self):
+        desk = Desk(harbour(plain_kind(2)))
+        for line in ["drop gate", "drop inn", "told mill-port 1 9", "ask q mill-port none 5", "place inn 3 0", "place up 0 1"]:
+            self.assertEqual(desk.say(line), "done")
+        self.assertEqual(desk.say("worth q"), "mill-inn,mill-port")
+        self.assertEqual(desk.say("drop inn"), "done")
+        self.assertEqual(desk.say("worth q"), "mill-port")
+        self.assertEqual(desk.say("told port-up 0 1"), "done")
+        self.assertEqual(desk.say("worth q"), "mill-port,mill-up")
+
     def test_two_changes_and_grounds(self):
         desk = Desk(harbour())
         for line in ["ask b mill-port none 5", "ask a none mill-port -7", "told mill-inn 2 3", "told inn-port 4 4"]:

@@ -198,7 +198,18 @@ class NetsTest(unittest.TestCase):
             slow = {last: r.choice(oracle_paths(net, first, last)) for last in told}
             slow_times = {last: total(rose, trip_along(net, path)) for last, path in slow.items()}
             self.assertIs(are_quickest(net, rose, first, slow_times, slow), slow_times == told)
+            for last in told:
+                if last != first:
+                    less, less_paths = ({key: table[key] for key in table if key != last} for table in (told, by_paths))
+                    self.assertIs(are_quickest(net, rose, first, less, less_paths), False)
+                    self.assertIs(are_quickest(net, rose, first, told, less_paths), False)
+                    self.assertIs(are_quickest(net, rose, first, less, by_paths), False)
         rose = Rose(2, 1, [(1, 0)])
+        half = Net(2, PLACES, [(0, 1)])
+        self.assertIs(are_quickest(half, rose, 0, {0: (0, 1), 1: (2, 1)}, {0: (0,), 1: (0, 1)}), True)
+        self.assertIs(are_quickest(half, rose, 0, {0: (0, 1), 1: (2, 1)}, {0: (0,), 1: (0, 1), 2: (2,)}), False)
+        self.assertIs(are_quickest(half, rose, 0, {0: (0, 1), 1: (2, 1)}, {0: (0,), 2: (0, 1)}), False)
+        self.assertIs(are_quickest(half, rose, 0, {0: (0, 1), 2: (0, 1)}, {0: (0,), 2: (2,)}), False)
         check_odd(self, lambda thing: are_quickest(NET, rose, 0, thing, quick_paths(NET, rose, 0)))
         check_odd(self, lambda thing: are_quickest(NET, rose, 0, quickest(NET, rose, 0), thing))
         check_odd(self, lambda thing: are_quickest(NET, rose, 0, thing, thing))
@@ -219,7 +230,7 @@ class NetsTest(unittest.TestCase):
     def test_wrong(self):
         places = [("first", BAD_NUMBERS_OF_PLACES, BadPlace), ("last", BAD_NUMBERS_OF_PLACES, BadPlace)]
         check_refusals(self, paths, {"net": NET, "first": 0, "last": 0}, [("net", BAD_NETS, BadNet), *places])
-        bad = [None, 5, (), [], [0, 1], (0, 0), (1, 0), (0, 1, 0), (4,), (True,), (0, True), (0, 1.0), "01", (0, 3), ((0, 1),)]
+        bad = [None, 5, (), [], [0, 1], (0, 0), (1, 0), (0, 1, 0), (0, 1, 3, 0), (0, 2, 3, 0, 1), (4,), (True,), (0, True), (0, 1.0), "01", (0, 3), ((0, 1),)]
         check_refusals(self, path_trip, {"net": NET, "path": (0, 1)}, [("net", BAD_NETS, BadNet), ("path", bad, BadPath)])
         wrong = [("net", BAD_NETS, BadNet), ("rose", BAD_ROSES, BadRose), ("first", BAD_NUMBERS_OF_PLACES, BadPlace)]
         good = {"net": NET, "rose": Rose(2, 1, []), "first": 0}
@@ -590,6 +601,12 @@ class DetoursTest(unittest.TestCase):
             for near in [three[2].rows, None, any_rose(r, kind.size, 2), rose_kept(kind, any_rose(r, kind.size, 2)), Rose(kind.size, 1, [])]:
                 self.assertIs(are_detour(kind, net, first, last, three[0], three[1], near),
                               oracle_detour(kind, net, first, last, three[0], three[1], near))
+        bent = Net(2, [(0, 0), (1, 0), (1, 1)], [(0, 1), (1, 2)])
+        self.assertIsNone(detour(plain_kind(2), bent, 0, 2))
+        steep = detour_rose(plain_kind(2), bent, 0, 2)
+        self.assertIs(are_detour(plain_kind(2), bent, 0, 2, None, None, steep), True)
+        for thing in [*ODD, ((1, {(0, 1): 1, (1, 2): 1}), (1, ()))]:
+            self.assertIs(are_detour(plain_kind(2), bent, 0, 2, None, thing, steep), thing is None)
         three = [call(plain_kind(2), NET, 0, 3) for call in (detour, detour_shares, detour_rose)]
         for k in range(3):
             right = [thing for thing in ODD if oracle_detour(plain_kind(2), NET, 0, 3, *three[:k], thing, *three[k + 1:])]

@@ -33,7 +33,7 @@ BAD_ROW = [None, 5, "go", (), [], ("go",), ["go", (1, 2)], ("go", [1, 2]), ("go"
            ("loops", "a", [("loops", "b", [])]), ("loops", "a", [("back", [("times", 1, [("loops", "a", [])])])]),
            ("best",), ("best", []), ("best", ()), ("best", None), ("best", [GO]), ("best", [None]), ("best", [[GO], None]),
            ("best", [[]], []), ("best", [[("loops", "a", [])]]), ("best", [[("best", [[("loops", "a", [])]])]]),
-           ("way", []), ("", []), (None, []), (1, []), ({}, [])]
+           ("way", []), ("way", "a", []), ("", "a", []), (None, "a", []), ({}, "a", []), ("", []), (None, []), (1, []), ({}, [])]
 
 
 def nested(deep, row=GO):
@@ -450,7 +450,7 @@ class WalkTextsTest(unittest.TestCase):
         for line in ["", " ", "go", "go 1", "go 1 2 3", "go 1 2 ", " go 1 2", "  go 1 2", "go  1 2", "go 1  2", "go +1 2", "go 01 2",
                      "go -0 2", "go 1 - 2", "go 1 2\r", "go\t1 2", "go 1,2", "go 1.0 2", "go 1 \u0662", "go \u00b2 1", "Go 1 2", "back 1",
                      "back ", "led", "led 1 2 3", "led 1 2 3 4 5", "led 1 2 3 x", "times", "times -1", "times 1 2", "times x", "times 00",
-                     "loops", "loops A", "loops abcdefghi", "loops a b", "loops a1", "best 1", "way", "  way", "rows", "go 1 2#",
+                     "loops", "loops A", "loops abcdefghi", "loops a b", "loops a1", "best 1", "way", "  way", "rows", "hello", "hello ab", "way ab", "Loops ab", "go 1 2#",
                      "go " + str(TALL) + " 1", "go 1 -" + str(TALL), "times " + str(TALL), "go 1 2\x0b", "loops \u00e4", "times 1_0"]:
             if line != "":
                 self.bad(2, [line], 1)
@@ -475,6 +475,9 @@ class WalkTextsTest(unittest.TestCase):
         self.bad(2, ["best", "  way", "    best", "  way"], 4)
         self.bad(2, ["best", "  way", "go 1 2", "  way"], 4)
         self.bad(2, ["back", "  way"], 2)
+        self.bad(2, ["back", "way"], 2)
+        self.bad(2, ["back", "  back", "  way"], 3)
+        self.bad(2, ["best", "  way", "    back", "    way"], 4)
         self.bad(2, ["best", "  way", "    back", "      way"], 4)
         self.assertEqual(read_walk(2, "best\n  way\n    back\n  way\ngo 1 2").rows, (("best", ((("back", ()),), ())), GO))
         self.assertEqual(read_walk(2, "best\n  way\n    best\n      way\n  way").rows, (("best", ((("best", ((),)),), ())),))

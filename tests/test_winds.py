@@ -198,6 +198,8 @@ class RoundsTest(unittest.TestCase):
         both = (((-1, 0), 1), ((1, 0), 1))
         self.assertEqual(compared_windy(2, both, (((-1, 0), 1), ((0, -1), 1), ((0, 1), 1), ((1, 0), 1))), "never longer")
         self.assertEqual(windy_shares(2, (), ()), (1, ()))
+        self.assertIs(is_windy_bar(2, east, (), Wind(CROSS, 1, (0, 0))), True)
+        self.assertIs(is_windy_bar(2, east, (), Wind(CROSS, 1, (-1, 0))), False)
 
     def test_shares_or_bar(self):
         r, seen = seeded(921), {}
