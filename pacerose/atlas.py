@@ -23,12 +23,9 @@ class Atlas:
         return len(self.history)
 
     def __eq__(self, other):
-        if not isinstance(other, Atlas):
+        if not isinstance(other, Atlas) or self.kind != other.kind or self.state.homes != other.state.homes:
             return False
-        here, there = self.state, other.state
-        if self.kind != other.kind or here.homes != there.homes:
-            return False
-        return here.listed == there.listed and here.asked == there.asked
+        return self.state.listed == other.state.listed and self.state.asked == other.state.asked
 
     def carry_out(self, deed):
         """Do a deed, told as in a log."""

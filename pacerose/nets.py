@@ -1,8 +1,8 @@
 """Nets: places, some of them tied, and the quickest paths between them."""
 
-from pacerose.errors import BadKind, BadNet, BadPath, BadPlace, BadPlaces, BadTie, BadTies, OtherSize, TooMany
+from pacerose.errors import BadNet, BadPath, BadPlace, BadPlaces, BadTie, BadTies, OtherSize, TooMany
 from pacerose.forms import is_index, is_list, is_pair, is_row_of
-from pacerose.kinds import Kind, check_size
+from pacerose.kinds import check_kind, check_size
 from pacerose.roses import check_rose, top
 from pacerose.trips import gathered, whole_time
 from pacerose.vectors import lowest, minus
@@ -61,8 +61,7 @@ def check_tie(net, tie):
 
 
 def check_kind_and_net(kind, net):
-    if not isinstance(kind, Kind):
-        raise BadKind("this is no kind")
+    check_kind(kind)
     check_net(net)
 
 

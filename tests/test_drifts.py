@@ -134,6 +134,12 @@ class WindForTest(unittest.TestCase):
             if told is not None:
                 seen += 1
                 check_judge(self, lambda thing: is_windy_quarrel(size, log, thing), told, lambda thing: oracle_quarrel(size, log, thing))
+        # Right shares that tell nothing: what is gained is just what it costs, or less.
+        self.assertIs(is_windy_quarrel(2, WINDLESS, ((0, 0, 0), (0, 0, 0), (1, ()))), False)
+        self.assertIs(is_windy_quarrel(2, LOG, ((0, 0, 0), (1, 0, 0), (1, ((0, 1),)))), False)
+        once = {(1, 0): (1, 1)}
+        self.assertIs(is_windy_quarrel(2, once, ((1,), (1,), (1, ((0, 1),)))), False)
+        self.assertTrue(oracle_shares(mirror_kind(2), (((1, 0), 1),), (((1, 0), 1),), (1, ((0, 1),))))
         check_odd(self, lambda thing: is_windy_quarrel(2, WINDLESS, thing))
         check_odd(self, lambda thing: is_windy_quarrel(2, LOG, thing))
 
