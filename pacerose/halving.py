@@ -39,12 +39,11 @@ def seen_along(party, row):
 
 def middle_at(told, whole):
     """The index of the first one by which more than half of all weights is reached."""
-    reached = 0
-    for k, (_, weight) in enumerate(told):
-        reached += weight
-        if 2 * reached > whole:
-            return k
-    return len(told) - 1
+    reached, at = told[0][1], 0
+    while 2 * reached <= whole:
+        at += 1
+        reached += told[at][1]
+    return at
 
 
 def all_weights(party):
@@ -155,12 +154,8 @@ def fence(party):
     deal = deal_or_dam(columns, (0, 0, 1))[0]
     if deal is None:
         return None
-    found = [(count, row) for count, row in zip(deal[1], rows) if count > 0]
-    if len(found) == 2:
-        # Three are asked for: the first one is taken twice.
-        (here, one), (there, other) = found
-        return (here, one), (here, one), (2 * there, other)
-    return tuple(found)
+    # Two are never enough: the tops of a row and of its negative are together not below 0.
+    return tuple([(count, row) for count, row in zip(deal[1], rows) if count > 0])
 
 
 def is_fence(party, thing):

@@ -270,6 +270,8 @@ class AtlasTest(unittest.TestCase):
         for bad in BAD_ERRANDS:
             self.refused(atlas, ("told", bad, None, None), BadErrand)
             self.refused(atlas, ("fact", bad, None, None), BadErrand)
+            self.refused(atlas, ("fact", bad, MILLPORT, (1, 1)), BadErrand)
+            self.refused(atlas, ("ask", "new", bad, MILLPORT, (1, 1)), BadErrand)
             self.refused(atlas, ("fact", MILLPORT, bad, None), BadErrand)
             self.refused(atlas, ("ask", "new", bad, None, None), BadErrand)
             self.refused(atlas, ("ask", "new", [], bad, None), BadErrand)
@@ -380,6 +382,18 @@ class AtlasTest(unittest.TestCase):
         self.assertEqual(told_now(atlas), before)
         atlas.redo()
         self.assertEqual(atlas.places()["inn"], (7, 7))
+
+    def test_changed_claims_do_not_count(self):
+        atlas = harbour()
+        atlas.ask("q", MILLPORT, [], (1, 1))
+        atlas.ask("p", MILLPORT, [], (1, 1))
+        told = ("told", MILLPORT, (5, 1), None)
+        atlas.attempt([told, ("close", "q"), ("ask", "q", MILLPORT, [], (2, 1)), ("close", "p"), ("ask", "p", MILLPORT, [], (1, 1))])
+        self.assertEqual((atlas.answer("q"), atlas.changed()), ("no", {"p": ("open", "no")}))
+        atlas.ask("late", MILLPORT, [], (3, 1))
+        self.assertEqual(atlas.changed(), {})
+        atlas.attempt([("forget", 0), ("close", "p")])
+        self.assertEqual(atlas.changed(), {"late": ("no", "open"), "q": ("no", "open")})
 
     def test_attempt_quarrels_on_its_way(self):
         """Each deed of an attempt is refused by itself, though a later one would make it right."""

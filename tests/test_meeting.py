@@ -203,6 +203,15 @@ class MeetingTest(unittest.TestCase):
                 twice = {place: (2 * scale, tuple(2 * part for part in row)) for place, (scale, row) in reversed(told.items())}
                 self.assertIs(are_pulls(rose, party, spot, twice), True)
         check_odd(self, lambda thing: are_pulls(Rose(2, 1, []), TRIANGLE, (1, (0, 0)), thing))
+        # Held, and nothing together, but less than the time; as much as the time, but not held; other places.
+        cross, stick, two = Rose(2, 1, [(1, 0), (-1, 0), (0, 1), (0, -1)]), Rose(2, 1, [(1, 0), (-1, 0)]), {(-1, 0): 1, (1, 0): 1}
+        self.assertIs(are_pulls(cross, TRIANGLE, (1, (0, 0)), {place: (1, (0, 0)) for place in TRIANGLE}), False)
+        right = {(-1, 0): (1, (-1, 0)), (1, 0): (1, (1, 0))}
+        self.assertIs(are_pulls(stick, two, (1, (0, 0)), right), True)
+        self.assertIs(are_pulls(stick, two, (1, (0, 0)), {(-1, 0): (1, (-1, 5)), (1, 0): (1, (1, -5))}), False)
+        self.assertIs(are_pulls(stick, two, (1, (0, 0)), {**right, (5, 5): (1, (0, 0))}), False)
+        self.assertIs(are_pulls(stick, two, (1, (0, 0)), {(-1, 0): (1, (-1, 0)), (2, 0): (1, (1, 0))}), False)
+        self.assertIs(are_pulls(stick, {**two, (3, 0): 1}, (1, (0, 0)), {**right, (3, 0): (1, (1, 0))}), False)
 
     def test_wrong(self):
         good = {"rose": Rose(2, 1, [(1, 0), (-1, 0)]), "party": TRIANGLE, "spot": (2, (1, 0))}
@@ -342,6 +351,9 @@ class HalvingTest(unittest.TestCase):
                 check_judge(self, lambda thing: is_fence(party, thing), told, lambda thing: oracle_fence(party, thing))
         check_odd(self, lambda thing: is_fence(TRIANGLE, thing))
         self.assertIs(is_fence(TRIANGLE, ((1, (1, 0)), (1, (0, 1)), (1, (-1, -1)), (1, (0, 0)))), False)
+        self.assertIs(is_fence(TRIANGLE, ((1, (1, 0)), (1, (-1, 0)), (1, (0, 0)))), False)
+        self.assertIs(is_fence({(0, 0): 1}, ((1, (1, 0)), (1, (0, 1)), (1, (-1, -1)))), False)
+        self.assertIs(is_fence({(0, 0): 1, (1, 0): 1, (0, 1): 1}, ((1, (1, 0)), (1, (0, 1)), (1, (-1, -1)))), True)
 
     def test_wrong(self):
         good = {"party": TRIANGLE, "spot": (2, (1, 0))}
@@ -473,6 +485,12 @@ class RegretsTest(unittest.TestCase):
             three = [least_regret(TRIANGLE), calm_spot(TRIANGLE), calm_papers(TRIANGLE)]
             check_odd(self, lambda thing: are_calm(TRIANGLE, *three[:k], thing, *three[k + 1:]), [right])
         self.assertIs(are_calm({(1, 1): 1}, (1, 1), (1, (1, 1)), ((1, (1, 0)),)), False)
+        two = {(0, 0): 1, (1, 0): 1}
+        self.assertIs(are_calm(two, (1, 1), (1, (0, 0)), ((1, (1, 0)),)), True)
+        self.assertIs(are_calm(two, (1, 1), (1, (0, 0)), ((1, (0, 1)),)), False)
+        self.assertIs(are_calm(two, (1, 1), (1, (0, 0)), ((1, (1, 0)), (1, (0, 0)))), False)
+        self.assertIs(are_calm(two, (1, 1), (1, (0, 0)), ((1, (1, 0)), (1, (0, 1)), (2, (2, 0)))), True)
+        self.assertIs(are_calm(two, (1, 1), (1, (0, 0)), ((1, (1, 0)), (1, (0, 1)), (2, (2, 0)), (1, (3, 0)))), False)
 
 
 def oracle_stops(party, spot, thing):
