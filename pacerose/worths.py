@@ -54,8 +54,8 @@ class Worths:
         return False
 
     def is_worth(self, trip):
-        least, greatest = self.least(trip), self.greatest(trip)
-        if least == greatest:
-            # It is known already how long it takes.
-            return False
-        return self.is_answered(trip, least) or (greatest is not None and self.is_answered(trip, greatest))
+        # The greatest time is searched only where it is needed: that takes longest.
+        if self.is_answered(trip, self.least(trip)):
+            return True
+        greatest = self.greatest(trip)
+        return greatest is not None and self.is_answered(trip, greatest)
